@@ -1,0 +1,1 @@
+"""A log's entries that later or earlier blocks make needless, by kinds."""
