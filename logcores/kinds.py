@@ -1,7 +1,7 @@
 """Kinds, and what rows of them make [10] to [13]."""
 
 from logcores.errors import InvalidKind, InvalidKinds, InvalidLog, InvalidMap, InvalidTable
-from logcores.forms import is_map, is_word
+from logcores.forms import is_list_of, is_map, is_word
 
 
 class Kinds:
@@ -80,9 +80,13 @@ def check_kind(kinds, kind):
 
 def check_row(kinds, row):
     """Raise InvalidLog unless any object is a list, not empty, of kinds."""
-    words = kinds.words()
-    if not isinstance(row, list) or len(row) == 0 or not all([kind in words for kind in row]):
+    if not is_row(kinds, row):
         raise InvalidLog(row)
+
+
+def is_row(kinds, value):
+    """Return whether any object is a list, not empty, of kinds."""
+    return is_list_of(kinds.words(), value) and len(value) > 0
 
 
 def check_map(kinds, sent):

@@ -3,6 +3,7 @@
 from logcores.errors import InvalidPairs, InvalidRule, Unlike
 from logcores.forms import is_ascending
 from logcores.kinds import can_cover, can_stop, check_kinds, check_map, opposite, renamed
+from logcores.rows import Tables
 
 
 class Rule:
@@ -14,6 +15,7 @@ class Rule:
         self._kinds = kinds
         self._covers = list(covers)
         self._stops = list(stops)
+        self.tables = Tables(kinds.table(), covers, stops)
 
     def kinds(self):
         """Return the Kinds of the rule."""

@@ -14,12 +14,37 @@ FUNCTIONS = {
         "meet_rule": ["one", "other"], "union_rule": ["one", "other"], "is_within": ["one", "other"],
         "mirrored_rule": ["rule"], "renamed_rule": ["rule", "sent"],
     },
+    "logcores.forced": {
+        "is_force": ["rule", "value"], "forced_pairs": ["rule"], "force_of": ["rule", "word", "pair"],
+        "forced_rule": ["rule"], "settled_within": ["rule"],
+    },
+    "logcores.logs": {
+        "is_log": ["book", "value"], "kinds_of": ["book", "log"], "kind_of": ["book", "log", "block"],
+        "log_without": ["book", "log", "places"], "log_of": ["book", "log", "places"], "strikes": ["book", "log"],
+        "log_behind": ["book", "log", "strike"], "taken": ["strike"], "after": ["book", "log", "strikes"],
+        "by_kinds": ["book"], "with_names": ["book", "sent"], "log_sent": ["book", "log", "sent"],
+        "mirrored_strike": ["strike", "size"],
+    },
+    "logcores.settled": {
+        "is_settled": ["rule"], "last_ones": ["rule", "row"], "unsettled": ["rule"],
+        "is_unsettled": ["rule", "value"], "unsettled_rows": ["rule", "size"], "fork": ["rule"],
+        "is_fork": ["rule", "value"],
+    },
+    "logcores.cores": {
+        "core": ["book", "log"], "kept": ["book", "log"], "is_core": ["book", "log"], "striking": ["book", "log"],
+        "is_striking": ["book", "log", "value"], "fewest_strikes": ["book", "log"],
+        "fewest_striking": ["book", "log"], "is_fewest_striking": ["book", "log", "value"],
+        "reason": ["book", "log", "place"], "is_reason": ["book", "log", "place", "value"],
+        "witnesses": ["book", "log", "place"], "sure_places": ["book", "log", "place"],
+        "from_behind": ["book", "log"], "from_ahead": ["book", "log"],
+    },
 }
 CLASSES = {
     "logcores.kinds": {"Kinds": {"__init__": ["table"], "table": [], "words": [], "put": ["first", "second"],
                                  "__eq__": ["other"]}},
     "logcores.rules": {"Rule": {"__init__": ["kinds", "covers", "stops"], "kinds": [], "covers": [], "stops": [],
                                 "__eq__": ["other"]}},
+    "logcores.logs": {"Book": {"__init__": ["rule", "names"], "rule": [], "names": [], "__eq__": ["other"]}},
 }
 
 

@@ -1,23 +1,12 @@
-import itertools
 import unittest
 
 from logcores.errors import InvalidKinds, InvalidMap, InvalidPairs, InvalidRule, Unlike
 from logcores.kinds import Kinds, can_cover, can_stop, opposite, renamed
 from logcores.rules import (Rule, is_within, meet_rule, mirrored_rule, renamed_rule, rule_with, rule_without,
                             union_rule)
-from tests.helper import any_objects, check_told, check_wrong, few_kinds, last_kinds, raised, state_kinds, state_table
-
-COVERS = [("a", "s"), ("a", "z"), ("s", "s"), ("s", "z"), ("z", "s"), ("z", "z")]
-STOPS = [("z", "a")]
-
-
-def store_rule():
-    return Rule(state_kinds(), list(COVERS), list(STOPS))
-
-
-def parts_of(items):
-    """All ascending lists of some of the items."""
-    return [list(part) for size in range(len(items) + 1) for part in itertools.combinations(items, size)]
+from tests.helper import (COVERS, STOPS, any_objects, check_told, check_wrong, few_kinds, last_kinds, no_rules, raised,
+                          state_kinds, state_table, store_rule)
+from tests.oracle import parts_of
 
 
 def rules_of(kinds):
@@ -31,10 +20,6 @@ def two_kinds():
 
 def no_kinds():
     return [value for value in any_objects() if not isinstance(value, Kinds)] + [store_rule(), state_table()]
-
-
-def no_rules():
-    return [value for value in any_objects() if not isinstance(value, Rule)] + [state_kinds(), (COVERS, STOPS), [state_kinds(), [], []]]
 
 
 def wrong_pairs():

@@ -1,0 +1,159 @@
+"""Rows of kinds, and the strikes that fit them.
+
+Nothing here looks at the form of what it is passed, but where it says that
+it takes any object.
+"""
+
+from logcores.forms import is_strike
+
+
+class Tables:
+    """What a rule says of two kinds side by side, held ready for many questions.
+
+    What is found out about a rule once, at some cost, is kept here, too.
+    """
+
+    def __init__(self, table, covers, stops):
+        self.ordered = sorted({first for first, _ in table})
+        self.made = {first: {late: table[(first, late)] for late in self.ordered} for first in self.ordered}
+        self.covering = {first: {late: True for one, late in covers if one == first} for first in self.ordered}
+        self.stopping = {first: {late: True for one, late in stops if one == first} for first in self.ordered}
+        # None as long as nobody has asked.
+        self.settled = None
+
+
+def rows_of(words, size):
+    """Return the ascending list of all rows of so many words, as tuples."""
+    rows = [()]
+    for _ in range(size):
+        rows = [(*row, word) for row in rows for word in words]
+    return rows
+
+
+def kind_of_row(tables, row):
+    """Return the kind of a row that is not empty."""
+    kind = row[0]
+    for late in row[1:]:
+        kind = tables.made[kind][late]
+    return kind
+
+
+def block_kinds(tables, row):
+    """Return, for each place, the list of the kinds of the blocks from it on, the shortest block first."""
+    found = []
+    for first, kind in enumerate(row):
+        kinds = [kind]
+        for late in row[first + 1:]:
+            kinds.append(tables.made[kinds[-1]][late])
+        found.append(kinds)
+    return found
+
+
+def row_strikes(tables, row):
+    """Return the ascending list of the strikes that fit a row."""
+    found = block_kinds(tables, row)
+    covers = []
+    stops = []
+    for first in range(len(row)):
+        for cut in range(first + 1, len(row)):
+            early = found[first][cut - first - 1]
+            covering = tables.covering[early]
+            stopping = tables.stopping[early]
+            for size, late in enumerate(found[cut], start=1):
+                if late in covering:
+                    covers.append(("cover", first, cut, cut + size))
+                if late in stopping:
+                    stops.append(("stop", first, cut, cut + size))
+    return covers + stops
+
+
+def taken_out(strike):
+    """Return the first and the end of what a strike takes out."""
+    word, first, cut, end = strike
+    return (first, cut) if word == "cover" else (cut, end)
+
+
+def removals(tables, row):
+    """Return the ascending list of the blocks that some strike takes out of a row."""
+    return sorted({taken_out(strike) for strike in row_strikes(tables, row)})
+
+
+def fits(tables, row, value):
+    """Return whether any object is a strike that fits a row."""
+    if not is_strike(value) or value[3] > len(row):
+        return False
+    word, first, cut, end = value
+    pairs = tables.covering if word == "cover" else tables.stopping
+    return kind_of_row(tables, row[cut:end]) in pairs[kind_of_row(tables, row[first:cut])]
+
+
+def places_behind(tables, row, value):
+    """Return the places of a row that a list of strikes leaves, None if any object is no such list."""
+    if not isinstance(value, list):
+        return None
+    places = list(range(len(row)))
+    for strike in value:
+        if not fits(tables, [row[place] for place in places], strike):
+            return None
+        first, end = taken_out(strike)
+        del places[first:end]
+    return places
+
+
+def reached(tables, row, places):
+    """Return the dictionary from the tuples of places to which strikes lead from some of a row's to True."""
+    found = {tuple(places): True}
+    waiting = [tuple(places)]
+    while waiting:
+        now = waiting.pop()
+        for first, end in removals(tables, [row[place] for place in now]):
+            left = now[:first] + now[end:]
+            if left not in found:
+                found[left] = True
+                waiting.append(left)
+    return found
+
+
+def sweep(tables, row):
+    """Return the places of a row's core and a list of strikes that lead to it, by a settled rule."""
+    left = []
+    made = []
+    coming = list(range(len(row) - 1, -1, -1))
+    while coming:
+        left.append(coming.pop())
+        strike = _strike_at_end(tables, [row[place] for place in left])
+        if strike is not None:
+            made.append(strike)
+            word, first, cut, _ = strike
+            if word == "cover":
+                # What stands behind comes anew: its entries have other neighbours now.
+                coming.extend(left[cut:][::-1])
+                cut = first
+            del left[cut:]
+    return left, made
+
+
+def _strike_at_end(tables, row):
+    """Return a strike up to the end of a row, None if there is none; no other strike fits the row."""
+    end = len(row)
+    late = None
+    for cut in range(end - 1, 0, -1):
+        late = row[cut] if late is None else tables.made[row[cut]][late]
+        early = None
+        for first in range(cut - 1, -1, -1):
+            early = row[first] if early is None else tables.made[row[first]][early]
+            if late in tables.covering[early]:
+                return ("cover", first, cut, end)
+            if late in tables.stopping[early]:
+                return ("stop", first, cut, end)
+    return None
+
+
+def core_places(tables, row):
+    """Return the places of a row's core, by a settled rule."""
+    return sweep(tables, row)[0]
+
+
+def is_core_row(tables, row):
+    """Return whether no strike fits a row."""
+    return all([_strike_at_end(tables, row[:end]) is None for end in range(2, len(row) + 1)])
