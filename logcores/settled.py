@@ -14,9 +14,10 @@ LONGEST = 5
 def is_settled(rule):
     """Return whether strikes lead from each row to one row without strikes alone."""
     check_rule(rule)
-    if rule.tables.settled is None:
-        rule.tables.settled = _first_split(rule.tables) is None
-    return rule.tables.settled
+    tables = rule.tables
+    if tables.settled is None:
+        tables.settled = _first_split(tables) is None
+    return tables.settled
 
 
 def check_settled(rule, told):

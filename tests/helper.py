@@ -70,6 +70,40 @@ def ring_book():
     return Book(Rule(last_kinds("abc"), [], [("a", "a")]), {"p": "a", "q": "b", "r": "c", "s": "a"})
 
 
+def tall_rule():
+    """A settled rule whose cores have at most four entries: no other rule of three kinds has longer ones."""
+    table = {("a", "a"): "a", ("a", "b"): "a", ("a", "c"): "a", ("b", "a"): "a", ("b", "b"): "a", ("b", "c"): "b",
+             ("c", "a"): "a", ("c", "b"): "b", ("c", "c"): "c"}
+    return Rule(Kinds(table), [], [("a", "a"), ("a", "b"), ("a", "c"), ("c", "c")])
+
+
+def tall_book():
+    """A book of the tall rule, with the names of the short book."""
+    return Book(tall_rule(), {"p": "a", "q": "b", "r": "c", "s": "a"})
+
+
+def deep_book():
+    """A book of a rule with cores of at most four entries, with places that no single kind strikes alone."""
+    covers = [("a", "a"), ("b", "a"), ("c", "a"), ("c", "c")]
+    return Book(Rule(tall_rule().kinds(), covers, []), {"p": "a", "q": "b", "r": "c"})
+
+
+def square_rule():
+    """A settled rule: the number of its cores grows like a square."""
+    return Rule(tall_rule().kinds(), [], [("a", "b"), ("a", "c")])
+
+
+def late_rule():
+    """A settled rule by which three entries c in a row stand, and four do not."""
+    table = {(x, y): "b" if x + y == "cc" else "a" for x in "abc" for y in "abc"}
+    return Rule(Kinds(table), [], [("a", "c")])
+
+
+def free_rule():
+    """A settled rule without pairs: all logs are cores."""
+    return Rule(Kinds({(x, y): x for x in "ab" for y in "ab"}), [], [])
+
+
 def nested(depth):
     value = []
     for level in range(depth):

@@ -5,6 +5,9 @@ import itertools
 from logcores.kinds import Kinds, can_cover, can_stop
 from logcores.rules import Rule
 
+# What core_of has found out, by the numbers of the rules.
+KNOWN = {}
+
 
 def parts_of(items):
     """All ascending lists of some of the items, the shortest first."""
@@ -65,12 +68,24 @@ def settles(rule):
 
 def core_of(rule, row):
     """The places of the core, whatever order the strikes are made in: here always the last one."""
-    places = list(range(len(row)))
-    while True:
-        found = strikes_on(rule, [row[at] for at in places])
-        if not found:
-            return places
-        places = left_behind(places, found[-1])
+    # The rule is kept beside what is known of it, so that no other one can come to have its number.
+    known = KNOWN.setdefault(id(rule), (rule, {}))[1]
+    if tuple(row) not in known:
+        places = list(range(len(row)))
+        while found := strikes_on(rule, [row[at] for at in places]):
+            places = left_behind(places, found[-1])
+        known[tuple(row)] = places
+    return list(known[tuple(row)])
+
+
+def core_names(book, log):
+    """The core of a log, by its names."""
+    return [log[place] for place in core_of(book.rule(), [book.names()[name] for name in log])]
+
+
+def logs_of(book, longest, shortest=0):
+    """All logs of a book of up to so many entries, those of one size ascending."""
+    return [list(log) for size in range(shortest, longest + 1) for log in itertools.product(book.names(), repeat=size)]
 
 
 def forces_on(rule, row):

@@ -38,6 +38,37 @@ FUNCTIONS = {
         "witnesses": ["book", "log", "place"], "sure_places": ["book", "log", "place"],
         "from_behind": ["book", "log"], "from_ahead": ["book", "log"],
     },
+    "logcores.alike": {
+        "are_alike": ["book", "one", "other"], "road": ["book", "one", "other"],
+        "is_road": ["book", "one", "other", "value"], "many_alike": ["book", "log", "size"],
+        "repeated": ["book", "log", "times"], "rounds": ["book", "log"], "lead": ["book", "one", "other"],
+        "is_lead": ["book", "one", "other", "value"], "led": ["book", "log"], "same_ends": ["book", "one", "other"],
+        "parting_end": ["book", "one", "other"],
+    },
+    "logcores.nets": {
+        "mark_of": ["rule", "row"], "net": ["rule"], "follow": ["book", "log"], "longest": ["rule"],
+        "longest_row": ["rule"], "heights": ["rule"], "are_heights": ["rule", "value"], "ring": ["rule"],
+        "is_ring": ["rule", "value"], "core_rows": ["rule", "size"], "core_logs": ["book", "size"],
+        "many_unlike": ["book"], "core_at": ["book", "size", "number"], "core_place": ["book", "log"],
+        "growth": ["rule"], "two_turns": ["rule"], "are_two_turns": ["rule", "value"],
+    },
+    "logcores.futures": {
+        "struck_in": ["book", "log", "future"], "left_in": ["book", "log", "future"],
+        "least_future": ["book", "log", "place"], "is_future_striking": ["book", "log", "place", "value"],
+        "kept_for_ever": ["book", "log"], "why_kept": ["book", "log", "place"],
+        "is_why_kept": ["book", "log", "place", "value"], "struck_sets": ["book", "log"],
+        "future_for": ["book", "log", "places"], "is_future_for": ["book", "log", "places", "value"],
+        "struck_soon": ["book", "log", "size"], "lasting_kinds": ["rule"], "striking_row": ["rule", "kind"],
+    },
+    "logcores.merges": {
+        "merged": ["book", "segments"], "cores_of": ["book", "segments"], "is_merging": ["segments", "value"],
+        "reads": ["book", "segments", "merging"], "least_reads": ["book", "segments"],
+        "best_merging": ["book", "segments"], "is_best_merging": ["book", "segments", "value"],
+        "many_best": ["book", "segments"], "merge_bounds": ["book", "segments"],
+        "are_merge_bounds": ["book", "segments", "value"], "struck_where": ["book", "segments"],
+        "left_of": ["book", "segments"], "needless": ["book", "segments"], "commute": ["book", "one", "other"],
+        "kinds_commute": ["rule", "kind", "late"],
+    },
 }
 CLASSES = {
     "logcores.kinds": {"Kinds": {"__init__": ["table"], "table": [], "words": [], "put": ["first", "second"],
