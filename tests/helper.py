@@ -99,6 +99,12 @@ def late_rule():
     return Rule(Kinds(table), [], [("a", "c")])
 
 
+def trap_rule():
+    """A settled rule with cores behind which not much more can come, and others that go on for ever."""
+    table = {(x, y): "c" if x + y == "cc" else "a" for x in "abc" for y in "abc"}
+    return Rule(Kinds(table), [], [("a", "a"), ("a", "b"), ("a", "c")])
+
+
 def free_rule():
     """A settled rule without pairs: all logs are cores."""
     return Rule(Kinds({(x, y): x for x in "ab" for y in "ab"}), [], [])

@@ -1,12 +1,12 @@
 import unittest
 
-from logcores.errors import InvalidPairs, InvalidRule, InvalidWord
+from logcores.errors import InvalidPairs, InvalidWord
 from logcores.forced import force_of, forced_pairs, forced_rule, is_force, settled_within
 from logcores.kinds import Kinds, can_cover, can_stop
 from logcores.rules import Rule, is_within, meet_rule, mirrored_rule, rule_with, rule_without, union_rule
 from logcores.settled import is_settled
-from tests.helper import (any_objects, bent, check_judge, check_wrong, few_kinds, last_kinds, no_rules, pages_rule,
-                          short_rule, store_rule, wild_rule, wrong_of_rule)
+from tests.helper import (any_objects, bent, check_judge, check_wrong, few_kinds, last_kinds, pages_rule, short_rule,
+                          store_rule, wild_rule, wrong_of_rule)
 from tests.oracle import all_rules, forces_on, parts_of, rows, settles
 
 
@@ -88,6 +88,17 @@ class ForcedPairs(unittest.TestCase):
         self.assertEqual(force_of(store_rule(), "cover", ("a", "z")), ("cover", ["a", "z"], 0, 1))
         self.assertEqual(force_of(rule=store_rule(), word="stop", pair=("z", "a")), ("stop", ["z", "a"], 0, 1))
         self.assertIs(force_of(store_rule(), "stop", ("a", "a")), None)
+
+    def test_rows_of_six_entries_are_too_long(self):
+        sent = {"a": "a", "b": "a", "c": "c"}
+        kinds = Kinds({(x, y): "a" if sent[x] == sent[y] else "c" for x in "abc" for y in "abc"})
+        rule = Rule(kinds, [("a", "a"), ("b", "c")], [("c", "b")])
+        longer = [force for row in rows(kinds, 6) if len(row) == 6 for force in forces_on(rule, row)]
+        longer = [force for force in longer if pair_of(force) == ("stop", ("a", "a"))]
+        self.assertGreater(len(longer), 0)
+        self.assertEqual({is_force(rule, force) for force in longer}, {True})
+        self.assertIs(force_of(rule, "stop", ("a", "a")), None)
+        self.assertNotIn(("a", "a"), forced_pairs(rule)[1])
 
     def test_what_is_returned_may_be_changed(self):
         wild = wild_rule()

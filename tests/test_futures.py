@@ -1,17 +1,16 @@
-import itertools
 import unittest
 
-from logcores.errors import Boundless, InvalidBook, InvalidCount, InvalidFuture, InvalidKind, InvalidPlaces, Unsettled
+from logcores.errors import Boundless, InvalidCount, InvalidFuture, InvalidKind, InvalidPlaces, Unsettled
 from logcores.futures import (future_for, is_future_for, is_future_striking, is_why_kept, kept_for_ever, lasting_kinds,
                               least_future, left_in, striking_row, struck_in, struck_sets, struck_soon, why_kept)
 from logcores.kinds import Kinds
 from logcores.logs import Book
 from logcores.rules import Rule
 from logcores.settled import is_settled
-from tests.helper import (any_objects, bent, check_judge, check_told, check_wrong, deep_book, no_counts, no_rows, pages_rule,
-                          raised, ring_book, short_book, short_rule, square_rule, store_book, store_rule, tall_book, tall_rule,
-                          wild_book, wild_rule, wrong_of_logs, wrong_of_rule)
-from tests.oracle import all_rules, core_of, logs_of, made_by, out_of, parts_of, rows, strikes_on
+from tests.helper import (any_objects, bent, check_judge, check_told, check_wrong, deep_book, no_counts, no_rows,
+                          pages_rule, raised, ring_book, short_book, short_rule, square_rule, store_book, store_rule,
+                          tall_book, tall_rule, wild_book, wild_rule, wrong_of_logs, wrong_of_rule)
+from tests.oracle import all_rules, core_of, logs_of, out_of, parts_of, rows, strikes_on
 
 
 def first_book():
@@ -171,7 +170,8 @@ class ForEver(unittest.TestCase):
         right = [(("a",), 0)]
         wrong = bent(right) + [[(("a",), False)], [(("a",), 1)], [(["a"], 0)], [("a", 0)], [(("a", "b"), 0)], [((), 0)],
                                [(("q",), 0)], [(("a",),)], [(("a",), 0, 0)], [(("a",), 0), (("c",), 0)], [(("a",), 0), (("b", "a"), 1)],
-                               {(("a",), 0): True}, [(("a",), 0), (("b",), 1)], [((None,), 0)], [(("a",), 0), None]]
+                               {(("a",), 0): True}, [(("a",), 0), (("b",), 1)], [((None,), 0)], [(("a",), 0), None],
+                               [(("a",), 0), (("a", "b"), 0)], [(("a",), 0), (("a", "a", "b"), 0)]]
         check_judge(self, lambda value: is_why_kept(first_book(), ["p", "q"], 0, value), [right, right + [(("b",), 0)]], wrong)
         check_judge(self, lambda value: is_why_kept(short_book(), ["r", "p"], 0, value), [], [[(("c", "a"), 0)], [(("c",), 0), (("c", "a"), 0)]])
 
@@ -286,6 +286,13 @@ class KindsThatLast(unittest.TestCase):
     def test_rows_of_two_to_four_entries_are_needed(self):
         sizes = {len(striking_row(rule, kind) or []) for rule in all_rules("ab") for kind in "ab"}
         self.assertEqual(sizes, {0, 2, 3})
+        # Of two kinds of these the second place of the one has to be the first one of the other: z otherwise.
+        places = {"p": (1, 1), "x": (1, 2), "y": (2, 1), "k": (2, 2)}
+        sent = {place: kind for kind, place in places.items()}
+        units = Kinds({(one, other): sent[places[one][0], places[other][1]] if "z" not in (one, other) and places[one][1] == places[other][0]
+                       else "z" for one in "kpxyz" for other in "kpxyz"})
+        self.assertEqual(striking_row(Rule(units, [("p", "x")], []), "k"), ["x", "k", "y", "x"])
+        self.assertEqual(lasting_kinds(Rule(units, [("p", "x")], [])), ["z"])
         deep = Kinds({(x, y): "a" if x + y == "xy" else "z" for x in "axyz" for y in "axyz"})
         rule = Rule(deep, [("a", "z")], [])
         self.assertEqual([striking_row(rule=rule, kind=kind) for kind in "axyz"], [self.least_row(rule, kind) for kind in "axyz"])

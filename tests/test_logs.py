@@ -1,15 +1,15 @@
 import itertools
 import unittest
 
-from logcores.errors import (InvalidBook, InvalidCount, InvalidLog, InvalidMap, InvalidNames, InvalidPlaces, InvalidRoad,
+from logcores.errors import (InvalidBook, InvalidCount, InvalidMap, InvalidNames, InvalidPlaces, InvalidRoad,
                              InvalidRule, InvalidStrike)
 from logcores.kinds import Kinds
 from logcores.logs import (Book, after, by_kinds, is_log, kind_of, kinds_of, log_behind, log_of, log_sent, log_without,
                            mirrored_strike, strikes, taken, with_names)
 from logcores.rules import Rule, mirrored_rule
-from tests.helper import (any_objects, bent, check_judge, check_told, check_wrong, last_kinds, no_books, no_counts, no_logs,
-                          no_rules, pages_rule, raised, short_book, short_rule, store_book, store_rule, wild_book,
-                          wrong_of_logs)
+from tests.helper import (any_objects, bent, check_judge, check_told, check_wrong, last_kinds, no_books, no_counts,
+                          no_logs, no_rules, pages_rule, raised, short_book, short_rule, store_book, store_rule,
+                          wild_book, wrong_of_logs)
 from tests.oracle import all_rules, left_behind, made_by, out_of, rows, strikes_on
 
 LOG = ["up", "set", "more", "up", "end"]
@@ -64,7 +64,7 @@ class TheBook(unittest.TestCase):
 
     def test_wrong_arguments(self):
         names = any_objects() + [
-            {"up": "a", "set": "s"}, {"up": "a", "set": "s", "end": "q"}, {"Up": "a", "set": "s", "end": "z"},
+            {"up": "a", "set": "s"}, {"up": "a", "set": "s", "end": "z", "x": "q"}, {"up": "a", "set": "s", "end": "q"}, {"Up": "a", "set": "s", "end": "z"},
             {"up": "a", "set": "s", "end": None}, {"up": "a", "set": "s", "end": ["z"]}, {"": "a", "set": "s", "end": "z"},
             {"abcdefghi": "a", "set": "s", "end": "z"}, {True: "a", "set": "s", "end": "z"}, list(NAMES), list(NAMES.items()),
             {"up": "a", "set": "s", "end": "z", 1: "a"}, {"up": "a", "set": "s", "end": "z", ("b",): "a"}]

@@ -1,16 +1,17 @@
 import itertools
 import unittest
 
-from logcores.errors import InvalidKind, InvalidLog, InvalidLogs, InvalidMerging, Unsettled
+from logcores.errors import InvalidKind, InvalidLogs, InvalidMerging, Unsettled
 from logcores.kinds import Kinds
 from logcores.logs import Book
-from logcores.merges import (are_merge_bounds, best_merging, commute, cores_of, is_best_merging, is_merging, kinds_commute,
-                             least_reads, left_of, many_best, merge_bounds, merged, needless, reads, struck_where)
+from logcores.merges import (are_merge_bounds, best_merging, commute, cores_of, is_best_merging, is_merging,
+                             kinds_commute, least_reads, left_of, many_best, merge_bounds, merged, needless, reads,
+                             struck_where)
 from logcores.rules import Rule
 from logcores.settled import is_settled
-from tests.helper import (any_objects, bent, check_judge, check_told, check_wrong, no_logs, pages_rule, raised, ring_book,
-                          short_book, short_rule, store_book, store_rule, tall_book, tall_rule, wild_book, wild_rule,
-                          wrong_of_logs, wrong_of_rule)
+from tests.helper import (any_objects, bent, check_judge, check_wrong, no_logs, pages_rule, ring_book, short_book,
+                          short_rule, store_book, store_rule, tall_book, tall_rule, wild_book, wild_rule, wrong_of_logs,
+                          wrong_of_rule)
 from tests.oracle import all_rules, core_names, core_of, logs_of, made_by, rows
 
 SEGMENTS = [["up", "set", "more"], ["up", "up"], ["set", "up", "set"], ["more"]]

@@ -4,13 +4,14 @@ import unittest
 from logcores.errors import Boundless, InvalidBook, InvalidCount, InvalidLog, Unsettled
 from logcores.kinds import Kinds
 from logcores.logs import Book
-from logcores.nets import (are_heights, are_two_turns, core_at, core_logs, core_place, core_rows, follow, growth, heights,
-                           is_ring, longest, longest_row, many_unlike, mark_of, net, ring, two_turns)
+from logcores.nets import (are_heights, are_two_turns, core_at, core_logs, core_place, core_rows, follow, growth,
+                           heights, is_ring, longest, longest_row, many_unlike, mark_of, net, ring, two_turns)
 from logcores.rules import Rule
 from logcores.settled import is_settled
-from tests.helper import (any_objects, bent, check_judge, check_told, check_wrong, free_rule, last_kinds, late_rule, no_books,
-                          no_counts, no_logs, no_rows, pages_rule, raised, ring_book, short_book, short_rule, square_rule,
-                          store_book, store_rule, tall_book, tall_rule, wild_book, wild_rule, wrong_of_logs, wrong_of_rule)
+from tests.helper import (check_judge, check_told, check_wrong, free_rule, late_rule, no_books, no_counts, no_logs,
+                          no_rows, pages_rule, raised, ring_book, short_book, short_rule, square_rule, store_book,
+                          store_rule, tall_book, tall_rule, trap_rule, wild_book, wild_rule, wrong_of_logs,
+                          wrong_of_rule)
 from tests.oracle import all_rules, core_names, logs_of, made_by, rows, strikes_on
 
 EMPTY = ((), ())
@@ -22,7 +23,7 @@ def bounded_rules():
 
 
 def boundless_rules():
-    return [store_rule(), pages_rule(), square_rule(), late_rule(), free_rule(), ring_book().rule()]
+    return [store_rule(), pages_rule(), square_rule(), late_rule(), free_rule(), ring_book().rule(), trap_rule()]
 
 
 def settled_rules():
@@ -278,7 +279,8 @@ class Positions(unittest.TestCase):
 class Growth(unittest.TestCase):
     def test_how_they_grow(self):
         told = [growth(rule) for rule in boundless_rules()]
-        self.assertEqual(told, [("power", 0), ("doubling",), ("power", 2), growth(late_rule()), ("doubling",), growth(ring_book().rule())])
+        self.assertEqual(told, [
+            ("power", 0), ("doubling",), ("power", 2), ("doubling",), ("doubling",), ("doubling",), ("power", 0)])
         for rule in settled_rules():
             self.check_growth(rule, growth(rule=rule))
 
@@ -330,6 +332,9 @@ class Growth(unittest.TestCase):
         self.assertIn(also[0], good)
         check_judge(self, lambda value: are_two_turns(free_rule(), value), [right, *good], wrong)
         check_judge(self, lambda value: are_two_turns(store_rule(), value), [], [(["s"], ["a"], ["a"]), right])
+        ahead, one, other = two_turns(pages_rule())
+        wrong = [(["m", "m"], one, other), (["l", "w"], one, other), (["m", "m"], ["m"], ["l"]), (ahead, ["m", "m"], ["l", "w"])]
+        check_judge(self, lambda value: are_two_turns(pages_rule(), value), [(ahead, one, other), (ahead, other, one)], wrong)
 
 
 class TheExamples(unittest.TestCase):

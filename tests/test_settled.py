@@ -1,11 +1,11 @@
 import unittest
 
-from logcores.errors import InvalidCount, InvalidLog, InvalidRule
+from logcores.errors import InvalidCount, InvalidLog
 from logcores.kinds import Kinds
 from logcores.rules import Rule
 from logcores.settled import fork, is_fork, is_settled, is_unsettled, last_ones, unsettled, unsettled_rows
-from tests.helper import (any_objects, bent, check_judge, check_told, check_wrong, few_kinds, last_kinds, no_counts, no_rows,
-                          no_rules, pages_rule, raised, short_rule, store_rule, wild_rule, wrong_of_rule)
+from tests.helper import (bent, check_judge, check_wrong, few_kinds, last_kinds, no_counts, no_rows, pages_rule,
+                          short_rule, store_rule, wild_rule, wrong_of_rule)
 from tests.oracle import all_rules, ends_of, led_to, left_behind, rows, strikes_on
 
 
@@ -95,7 +95,7 @@ class Unsettled(unittest.TestCase):
         right = [(["a", "a"], [0], [1]), (["a", "a"], [1], [0])]
         right.extend([(["a", "a", "a"], [one], [other]) for one in range(3) for other in range(3) if one != other])
         wrong = [value for good in right[:2] for value in bent(good)]
-        wrong.extend([(["a", "a"], [0], [0]), (["a", "a"], [0, 1], [0]), (["a", "a"], [], [0]), (["a", "a"], [0], [2]),
+        wrong.extend([(["a", "a"], [0], [0]), (["a", "a"], [0, 1], [0]), (["a", "a"], [0], [0, 1]), (["a", "a"], [0], []), (["a", "a"], [0], [2]),
                       (["a", "b"], [0, 1], [0, 1]), ([], [], [0]), (["a", "a"], [False], [True]), (["a", "q"], [0], [1]),
                       (("a", "a"), [0], [1]), (["a", "a"], (0,), (1,)), [["a", "a"], [0], [1]], (["a", "a"], [0], [1], None)])
         check_judge(self, lambda value: is_unsettled(twice(), value), right, wrong)
