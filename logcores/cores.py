@@ -21,7 +21,8 @@ def check_place(log, place):
         raise InvalidPlaces(place)
 
 
-def _check_struck(book, log, place):
+def check_struck(book, log, place):
+    """Raise what is wrong with a book, a log of it, and the place of a struck entry of the log."""
     check_book_and_log(book, log)
     check_place(log, place)
     check_settled(book.rule(), book)
@@ -115,7 +116,7 @@ def is_fewest_striking(book, log, value):
 
 def reason(book, log, place):
     """Return strikes the last of which, and no other one, takes a struck entry out."""
-    _check_struck(book, log, place)
+    check_struck(book, log, place)
     row = row_of(book, log)
     made = sweep(book.rule().tables, row)[1]
     many = 1
@@ -126,7 +127,7 @@ def reason(book, log, place):
 
 def is_reason(book, log, place, value):
     """Return whether any object is a list of strikes the last of which, and no other one, takes an entry out."""
-    _check_struck(book, log, place)
+    check_struck(book, log, place)
     tables = book.rule().tables
     row = row_of(book, log)
     left = places_behind(tables, row, value)
@@ -136,7 +137,7 @@ def is_reason(book, log, place, value):
 
 def witnesses(book, log, place):
     """Return the ascending list of the least lists of other places that strike an entry."""
-    _check_struck(book, log, place)
+    check_struck(book, log, place)
     return _witnesses_of(book, log, place)
 
 
@@ -163,7 +164,7 @@ def _strikes_entry(book, row, place, others):
 
 def sure_places(book, log, place):
     """Return the ascending list of the places that are in each witness for a struck entry."""
-    _check_struck(book, log, place)
+    check_struck(book, log, place)
     first, *rest = _witnesses_of(book, log, place)
     return [other for other in first if all([other in witness for witness in rest])]
 

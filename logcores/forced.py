@@ -2,11 +2,12 @@
 
 from itertools import combinations
 
+from logcores.allrows import AllRows, least_in
 from logcores.errors import InvalidPairs, InvalidWord
 from logcores.forms import is_place, is_tuple_of
 from logcores.kinds import can_cover, can_stop, is_row
-from logcores.rows import reached, rows_of
-from logcores.rules import Rule, check_rule, is_within, rule_with
+from logcores.rows import reached
+from logcores.rules import Rule, check_rule, rule_with
 from logcores.settled import LONGEST, is_settled
 
 
@@ -37,17 +38,26 @@ def _forces_of(rule, row):
 def forced_pairs(rule):
     """Return the further pairs that are forced to cover, and those that are forced to stop, by rows of up to five."""
     check_rule(rule)
-    covers = set()
-    stops = set()
-    for size in range(2, LONGEST + 1):
-        for row in rows_of(rule.tables.ordered, size):
-            for word, first, second in _forces_of(rule, row):
-                if word == "cover":
-                    covers.add((row[first], row[second]))
-                else:
-                    stops.add((row[first], row[second]))
-    return ([pair for pair in sorted(covers) if pair not in rule.covers()],
-            [pair for pair in sorted(stops) if pair not in rule.stops()])
+    # Of a settled rule none is forced: what leads to an entry alone leads to it from the pair, too.
+    if is_settled(rule):
+        return ([], [])
+    kinds = rule.kinds()
+    covers = [pair for pair in can_cover(kinds) if pair not in rule.covers()]
+    stops = [pair for pair in can_stop(kinds) if pair not in rule.stops()]
+    every = [AllRows(rule.tables, size) for size in range(2, LONGEST + 1)]
+    return (_forced_of(every, "cover", covers), _forced_of(every, "stop", stops))
+
+
+def _forced_of(every, word, pairs):
+    """Return those of some pairs that are forced by rows of some sizes to cover, or to stop."""
+    found = {}
+    for rows in every:
+        for first, second in combinations(range(rows.size), 2):
+            forcing = rows.forcing(word, first, second)
+            for pair in pairs:
+                if forcing & rows.with_pair(pair, first, second) > 0:
+                    found[pair] = True
+    return sorted(found)
 
 
 def force_of(rule, word, pair):
@@ -59,10 +69,11 @@ def force_of(rule, word, pair):
     if pair not in allowed:
         raise InvalidPairs(pair)
     for size in range(2, LONGEST + 1):
-        for row in rows_of(rule.tables.ordered, size):
-            for told, first, second in _forces_of(rule, row):
-                if told == word and (row[first], row[second]) == pair:
-                    return (word, list(row), first, second)
+        every = AllRows(rule.tables, size)
+        for first, second in combinations(range(size), 2):
+            rows = every.forcing(word, first, second) & every.with_pair(pair, first, second)
+            if rows > 0:
+                return (word, every.row(least_in(rows)), first, second)
     return None
 
 
@@ -83,13 +94,19 @@ def settled_within(rule):
     found = []
     for size in range(len(pairs), -1, -1):
         for part in combinations(pairs, size):
-            less = _rule_of(rule.kinds(), part)
             # The larger ones are all known: one within none of them is within no other one.
-            if not any([is_within(less, more) for more in found]) and is_settled(less):
-                found.append(less)
-    return sorted([(less.covers(), less.stops()) for less in found])
+            if not any([_lies_within(part, more) for more in found]) and is_settled(_rule_of(rule.kinds(), part)):
+                found.append(part)
+    return sorted([(_pairs_of("cover", part), _pairs_of("stop", part)) for part in found])
 
 
-def _rule_of(kinds, pairs):
-    return Rule(kinds, [pair for word, pair in pairs if word == "cover"],
-                [pair for word, pair in pairs if word == "stop"])
+def _lies_within(less, more):
+    return all([pair in more for pair in less])
+
+
+def _rule_of(kinds, part):
+    return Rule(kinds, _pairs_of("cover", part), _pairs_of("stop", part))
+
+
+def _pairs_of(word, part):
+    return [pair for told, pair in part if told == word]

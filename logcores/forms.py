@@ -24,6 +24,12 @@ def is_ascending(items):
     return all([one < other for one, other in zip(items, items[1:])])
 
 
+def is_string_in(words, value):
+    """Return whether any object is one of some words."""
+    # What is no string perhaps can't be looked for in a dictionary.
+    return isinstance(value, str) and value in words
+
+
 def is_list_of(words, value):
     """Return whether any object is a list of some words."""
     return isinstance(value, list) and all([isinstance(word, str) and word in words for word in value])
@@ -60,3 +66,15 @@ def is_strike(value):
     if not is_tuple_of(4, value) or not all([is_count(number) for number in value[1:]]):
         return False
     return value[0] in ("cover", "stop") and value[1] < value[2] < value[3]
+
+
+def are_strikes(value):
+    """Return whether any object is a list of what has the form of a strike."""
+    return isinstance(value, list) and all([is_strike(one) for one in value])
+
+
+def number_in(text):
+    """Return the count that figures tell, perhaps with noughts ahead, None if a text is no such figures."""
+    if text == "" or not all([sign in "0123456789" for sign in text]):
+        return None
+    return int(text)

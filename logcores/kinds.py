@@ -1,7 +1,7 @@
 """Kinds, and what rows of them make [10] to [13]."""
 
 from logcores.errors import InvalidKind, InvalidKinds, InvalidLog, InvalidMap, InvalidTable
-from logcores.forms import is_list_of, is_map, is_word
+from logcores.forms import is_list_of, is_map, is_string_in, is_word
 
 
 class Kinds:
@@ -39,31 +39,59 @@ def is_table(value):
 
 
 def _is_complete(table):
-    # That all keys are pairs of words has to be known before their words are collected.
-    if not all([_is_pair_of_words(pair) for pair in table]):
+    # That all keys are pairs of strings has to be known before these are collected.
+    if not all([_is_pair_of_strings(pair) for pair in table]):
         return False
-    words = _words_of(table)
+    words = {first: True for first, _ in table}
     # So many keys as there are pairs, and each pair among them: no key leads out of the words.
-    if len(table) != len(words) * len(words):
+    if not all([is_word(word) for word in words]) or len(table) != len(words) * len(words):
         return False
-    return all([(first, second) in table and table[(first, second)] in words for first in words for second in words])
+    return all([(first, late) in table and is_string_in(words, table[(first, late)])
+                for first in words for late in words])
 
 
-def _is_pair_of_words(value):
-    return isinstance(value, tuple) and len(value) == 2 and is_word(value[0]) and is_word(value[1])
+def _is_pair_of_strings(value):
+    return isinstance(value, tuple) and len(value) == 2 and isinstance(value[0], str) and isinstance(value[1], str)
 
 
 def _words_of(table):
-    return sorted({pair[0] for pair in table})
+    return sorted({first for first, _ in table})
 
 
 def _is_associative(table):
     words = _words_of(table)
-    for first, second in table:
-        both = table[(first, second)]
-        if not all([table[(both, third)] == table[(first, table[(second, third)])] for third in words]):
-            return False
+    made = {first: {late: table[(first, late)] for late in words} for first in words}
+    # If three make one with each maker between the others, they do so with all that the makers make.
+    for word in _makers(made):
+        behind = made[word]
+        for early in made.values():
+            both = made[early[word]]
+            if not all([both[late] == early[behind[late]] for late in words]):
+                return False
     return True
+
+
+def _makers(made):
+    """Return some words of which, put together, all words are made."""
+    by_others = {word: True for first, row in made.items() for late, word in row.items() if word not in (first, late)}
+    found = []
+    known = {}
+    for word in [word for word in made if word not in by_others] + list(by_others):
+        if word not in known:
+            found.append(word)
+            _add_made(made, known, word)
+    return found
+
+
+def _add_made(made, known, word):
+    """Add a word, and all that it makes with those that are known, to these."""
+    waiting = [word]
+    while waiting:
+        now = waiting.pop()
+        if now not in known:
+            known[now] = True
+            waiting.extend([made[now][other] for other in known])
+            waiting.extend([made[other][now] for other in known])
 
 
 def check_kinds(kinds):

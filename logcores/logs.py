@@ -2,7 +2,7 @@
 
 from logcores.errors import InvalidBook, InvalidCount, InvalidLog, InvalidMap, InvalidNames, InvalidPlaces
 from logcores.errors import InvalidRoad, InvalidStrike
-from logcores.forms import are_places, is_block, is_count, is_list_of, is_map, is_strike, is_word
+from logcores.forms import are_places, is_block, is_count, is_list_of, is_map, is_strike, is_string_in, is_word
 from logcores.rows import fits, kind_of_row, places_behind, row_strikes, taken_out
 from logcores.rules import check_rule
 
@@ -75,6 +75,11 @@ def is_log(book, value):
     """Return whether any object is a log of a book."""
     check_book(book)
     return is_list_of(book.names(), value)
+
+
+def is_name(book, value):
+    """Return whether any object is a name of a book."""
+    return is_string_in(book.names(), value)
 
 
 def kinds_of(book, log):

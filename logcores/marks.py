@@ -1,13 +1,14 @@
 """Marks of rows without strikes, and the net of all of them.
 
-Nothing here looks at the form of what it is passed. A net is a dictionary
-from each mark to the dictionary from kinds to the marks behind them.
+Nothing here looks at the form of what it is passed. Each mark that has been
+met has a number in the tables of its rule, the empty row's the number 0. A
+net is a dictionary from the numbers to the dictionary from kinds to the
+numbers behind them. Numbers hang on what was asked before, so nothing that
+is told hangs on them: a net has its numbers in the order in which they are
+met from the empty row on.
 """
 
 from logcores.errors import Boundless
-
-# The mark of the row without entries, from which all others come.
-EMPTY = ((), ())
 
 
 def mark_behind(tables, mark, kind):
@@ -19,106 +20,158 @@ def mark_behind(tables, mark, kind):
     return (tuple(sorted(set([kind] + [tables.made[end][kind] for end in ends]))), tuple(sorted(set(found))))
 
 
-def mark_on(tables, mark, row):
-    """Return the mark behind a mark and a row of kinds, None if a strike fits somewhere on the way."""
+def step(tables, number, kind):
+    """Return the number of the mark behind a mark and a kind, None if a strike fits then."""
+    known = tables.steps[number]
+    if kind not in known:
+        known[kind] = _number_of(tables, mark_behind(tables, tables.marks[number], kind))
+    return known[kind]
+
+
+def _number_of(tables, mark):
+    if mark is None:
+        return None
+    if mark not in tables.numbers:
+        tables.numbers[mark] = len(tables.marks)
+        tables.marks.append(mark)
+        tables.steps.append({})
+    return tables.numbers[mark]
+
+
+def number_on(tables, number, row):
+    """Return the number behind a mark and a row of kinds, None if a strike fits somewhere on the way."""
     for kind in row:
-        if mark is not None:
-            mark = mark_behind(tables, mark, kind)
-    return mark
+        if number is not None:
+            number = step(tables, number, kind)
+    return number
 
 
-def net_of(tables):
-    """Return the net of a rule, all keys ascending."""
-    found = {}
-    waiting = [EMPTY]
-    while waiting:
-        mark = waiting.pop()
-        if mark not in found:
-            found[mark] = _steps_from(tables, mark)
-            waiting.extend(list(found[mark].values()))
-    return {mark: found[mark] for mark in sorted(found)}
-
-
-def _steps_from(tables, mark):
-    behind = {kind: mark_behind(tables, mark, kind) for kind in tables.ordered}
+def steps_from(tables, number):
+    """Return the dictionary, ascending, from the kinds that may follow a mark to the numbers behind them."""
+    behind = {kind: step(tables, number, kind) for kind in tables.ordered}
     return {kind: later for kind, later in behind.items() if later is not None}
 
 
-def heights_within(steps):
-    """Return the least heights of the marks of a net from which no walk goes on for ever."""
-    known = {}
-    left = list(steps)
-    found = left
-    while found != []:
-        found = [mark for mark in left if all([later in known for later in steps[mark].values()])]
-        for mark in found:
-            known[mark] = max([known[later] + 1 for later in steps[mark].values()], default=0)
-        left = [mark for mark in left if mark not in known]
-    return known
+def net_of(tables):
+    """Return the net of a rule."""
+    found = {}
+    order = [0]
+    met = {0: True}
+    while len(found) < len(order):
+        number = order[len(found)]
+        found[number] = steps_from(tables, number)
+        for later in found[number].values():
+            if later not in met:
+                met[later] = True
+                order.append(later)
+    return found
 
 
-def is_bounded(steps):
-    """Return whether a net has no ring."""
-    return len(heights_within(steps)) == len(steps)
+def ring_of(tables):
+    """Return a row and another one that may be put behind it for ever, None if cores are bounded.
+
+    The net is walked only as far as needed: that of four kinds may have thousands of marks.
+    """
+    path = [0]
+    row = []
+    coming = [list(steps_from(tables, 0).items())]
+    places = {0: 0}
+    done = {}
+    while path:
+        if coming[-1] == []:
+            number = path.pop()
+            done[number] = True
+            del places[number], coming[-1], row[-1:]
+            continue
+        kind, later = coming[-1].pop(0)
+        if later in places:
+            row.append(kind)
+            return (row[:places[later]], row[places[later]:])
+        if later not in done:
+            row.append(kind)
+            places[later] = len(path)
+            path.append(later)
+            coming.append(list(steps_from(tables, later).items()))
+    return None
+
+
+def is_bounded(tables):
+    """Return whether the cores of a settled rule are bounded."""
+    if tables.bounded is None:
+        tables.bounded = ring_of(tables) is None
+    return tables.bounded
 
 
 def check_bounded(rule, told):
     """Raise Boundless with what was passed, a rule or its book, unless the cores of a settled rule are bounded."""
-    if not is_bounded(net_of(rule.tables)):
+    if not is_bounded(rule.tables):
         raise Boundless(told)
 
 
-def shortest_row(steps, start, goal):
+def heights_within(net):
+    """Return the least heights of the marks of a net from which no walk goes on for ever."""
+    known = {}
+    left = list(net)
+    found = left
+    while found != []:
+        found = [number for number in left if all([later in known for later in net[number].values()])]
+        for number in found:
+            known[number] = max([known[later] + 1 for later in net[number].values()], default=0)
+        left = [number for number in left if number not in known]
+    return known
+
+
+def shortest_row(net, start, goal):
     """Return a shortest row of kinds that leads from one mark of a net to another one, None if there is none."""
     ways = {start: []}
     level = [start]
     while level and goal not in ways:
         later = []
-        for mark in level:
-            for kind, behind in steps[mark].items():
+        for number in level:
+            for kind, behind in net[number].items():
                 if behind not in ways:
-                    ways[behind] = ways[mark] + [kind]
+                    ways[behind] = ways[number] + [kind]
                     later.append(behind)
         level = later
     return ways.get(goal)
 
 
-def leaders_of(steps):
+def leaders_of(net):
     """Return the dictionary from each mark of a net to one that stands for all that lead to it and back.
 
     Those of one leader stand together, and ahead of all others to which they lead.
     """
-    back = {mark: [] for mark in steps}
-    for mark in steps:
-        for later in steps[mark].values():
-            back[later].append(mark)
+    back = {number: [] for number in net}
+    for number in net:
+        for later in net[number].values():
+            back[later].append(number)
     leaders = {}
-    for start in _by_finish(steps)[::-1]:
+    for start in _by_finish(net)[::-1]:
         waiting = [start]
         while waiting:
-            mark = waiting.pop()
-            if mark not in leaders:
-                leaders[mark] = start
-                waiting.extend(back[mark])
+            number = waiting.pop()
+            if number not in leaders:
+                leaders[number] = start
+                waiting.extend(back[number])
     return leaders
 
 
-def _by_finish(steps):
+def _by_finish(net):
     """Return the list of the marks of a net, each behind all that were first met by way of it."""
     order = []
     met = {}
-    waiting = [(EMPTY, False)]
+    waiting = [(0, False)]
     while waiting:
-        mark, done = waiting.pop()
+        number, done = waiting.pop()
         if done:
-            order.append(mark)
-        elif mark not in met:
-            met[mark] = True
-            waiting.append((mark, True))
-            waiting.extend([(later, False) for later in steps[mark].values()])
+            order.append(number)
+        elif number not in met:
+            met[number] = True
+            waiting.append((number, True))
+            waiting.extend([(later, False) for later in net[number].values()])
     return order
 
 
-def steps_within(steps, leaders, mark):
+def steps_within(net, leaders, number):
     """Return the ascending list of the kinds by which a mark of a net leads to one of the same leader."""
-    return [kind for kind, later in steps[mark].items() if leaders[later] == leaders[mark]]
+    return [kind for kind, later in net[number].items() if leaders[later] == leaders[number]]

@@ -4,8 +4,8 @@ from logcores.cores import check_settled_log, core_of
 from logcores.errors import InvalidCount, InvalidLog
 from logcores.forms import is_count, is_list_of, is_tuple_of
 from logcores.logs import check_book, check_book_and_log, row_of
-from logcores.marks import EMPTY, check_bounded, heights_within, is_bounded, leaders_of, mark_behind, mark_on, net_of
-from logcores.marks import shortest_row, steps_within
+from logcores.marks import check_bounded, heights_within, is_bounded, leaders_of, net_of, number_on, ring_of
+from logcores.marks import shortest_row, step, steps_within
 from logcores.rows import is_core_row
 from logcores.rules import check_rule
 from logcores.settled import check_settled
@@ -23,84 +23,78 @@ def mark_of(rule, row):
     if not is_list_of(rule.tables.ordered, row) or not is_core_row(rule.tables, row):
         raise InvalidLog(row)
     check_settled(rule, rule)
-    return mark_on(rule.tables, EMPTY, row)
+    return rule.tables.marks[number_on(rule.tables, 0, row)]
 
 
 def net(rule):
     """Return the marks of all core rows with the kinds that may follow and the marks behind them."""
     check_settled_rule(rule)
-    return net_of(rule.tables)
+    steps = net_of(rule.tables)
+    marks = rule.tables.marks
+    found = {marks[number]: {kind: marks[later] for kind, later in steps[number].items()} for number in steps}
+    return {mark: found[mark] for mark in sorted(found)}
 
 
 def follow(book, log):
     """Return the ascending list of the names that may be put behind the core of a log so that nothing is struck."""
     check_settled_log(book, log)
     tables = book.rule().tables
-    mark = mark_on(tables, EMPTY, row_of(book, core_of(book, log)))
-    return [name for name, kind in book.names().items() if mark_behind(tables, mark, kind) is not None]
+    number = number_on(tables, 0, row_of(book, core_of(book, log)))
+    return [name for name, kind in book.names().items() if step(tables, number, kind) is not None]
 
 
 def longest(rule):
     """Return the greatest number of entries of a core, None if cores are not bounded."""
     check_settled_rule(rule)
-    return _longest_of(net_of(rule.tables))
+    return _longest_of(rule.tables)
 
 
-def _longest_of(steps):
-    return heights_within(steps).get(EMPTY)
+def _longest_of(tables):
+    return heights_within(net_of(tables))[0] if is_bounded(tables) else None
 
 
 def longest_row(rule):
     """Return a core row of as many entries as can be, None if cores are not bounded."""
     check_settled_rule(rule)
+    if not is_bounded(rule.tables):
+        return None
     steps = net_of(rule.tables)
     known = heights_within(steps)
-    if EMPTY not in known:
-        return None
     row = []
-    mark = EMPTY
-    while known[mark] > 0:
-        row.append([kind for kind, later in steps[mark].items() if known[later] == known[mark] - 1][0])
-        mark = steps[mark][row[-1]]
+    number = 0
+    while known[number] > 0:
+        row.append([kind for kind, later in steps[number].items() if known[later] == known[number] - 1][0])
+        number = steps[number][row[-1]]
     return row
 
 
 def heights(rule):
     """Return the least heights of all marks, None if cores are not bounded."""
     check_settled_rule(rule)
-    steps = net_of(rule.tables)
-    known = heights_within(steps)
-    if len(known) < len(steps):
+    if not is_bounded(rule.tables):
         return None
-    return {mark: known[mark] for mark in steps}
+    known = heights_within(net_of(rule.tables))
+    found = {rule.tables.marks[number]: known[number] for number in known}
+    return {mark: found[mark] for mark in sorted(found)}
 
 
 def are_heights(rule, value):
     """Return whether any object is heights of just the marks of the net."""
     check_settled_rule(rule)
+    # Where cores are not bounded there are none: a walk round a ring can't go down for ever.
+    if not isinstance(value, dict) or not is_bounded(rule.tables):
+        return False
     steps = net_of(rule.tables)
-    if not isinstance(value, dict) or len(value) != len(steps):
+    marks = rule.tables.marks
+    if len(value) != len(steps) or not all([marks[one] in value and is_count(value[marks[one]]) for one in steps]):
         return False
-    if not all([mark in value and is_count(value[mark]) for mark in steps]):
-        return False
-    return all([value[later] < value[mark] for mark in steps for later in steps[mark].values()])
+    return all([value[marks[later]] < value[marks[one]] for one in steps for later in steps[one].values()])
 
 
 def ring(rule):
     """Return a row and another one that may be put behind it for ever, None if cores are bounded."""
     check_settled_rule(rule)
-    steps = net_of(rule.tables)
-    known = heights_within(steps)
-    if EMPTY in known:
-        return None
-    row = []
-    mark = EMPTY
-    met = {}
-    while mark not in met:
-        met[mark] = len(row)
-        row.append([kind for kind, later in steps[mark].items() if later not in known][0])
-        mark = steps[mark][row[-1]]
-    return (row[:met[mark]], row[met[mark]:])
+    return ring_of(rule.tables)
 
 
 def is_ring(rule, value):
@@ -110,13 +104,13 @@ def is_ring(rule, value):
     if not is_tuple_of(2, value) or not all([is_list_of(words, row) for row in value]) or value[1] == []:
         return False
     ahead, turn = value
-    mark = mark_on(rule.tables, EMPTY, ahead)
+    number = number_on(rule.tables, 0, ahead)
     met = {}
     # The net has no more marks than the walk meets before one comes again.
-    while mark is not None and mark not in met:
-        met[mark] = True
-        mark = mark_on(rule.tables, mark, turn)
-    return mark is not None
+    while number is not None and number not in met:
+        met[number] = True
+        number = number_on(rule.tables, number, turn)
+    return number is not None
 
 
 def core_rows(rule, size):
@@ -124,7 +118,7 @@ def core_rows(rule, size):
     check_rule(rule)
     _check_count(size)
     check_settled(rule, rule)
-    return _numbers(net_of(rule.tables), {kind: 1 for kind in rule.tables.ordered}, size)[size][EMPTY]
+    return _numbers(net_of(rule.tables), {kind: 1 for kind in rule.tables.ordered}, size)[size][0]
 
 
 def _check_count(number):
@@ -137,10 +131,10 @@ def _numbers(steps, many, size):
 
     Each kind counts so many times.
     """
-    found = [{mark: 1 for mark in steps}]
+    found = [{one: 1 for one in steps}]
     for _ in range(size):
         last = found[-1]
-        found.append({mark: sum([many[kind] * last[later] for kind, later in steps[mark].items()]) for mark in steps})
+        found.append({one: sum([many[kind] * last[later] for kind, later in steps[one].items()]) for one in steps})
     return found
 
 
@@ -155,7 +149,7 @@ def core_logs(book, size):
     check_book(book)
     _check_count(size)
     check_settled(book.rule(), book)
-    return _log_numbers(book, size)[size][EMPTY]
+    return _log_numbers(book, size)[size][0]
 
 
 def _log_numbers(book, size):
@@ -167,8 +161,13 @@ def many_unlike(book):
     check_book(book)
     check_settled(book.rule(), book)
     check_bounded(book.rule(), book)
-    size = _longest_of(net_of(book.rule().tables))
-    return sum([found[EMPTY] for found in _log_numbers(book, size)])
+    return many_cores(book)
+
+
+def many_cores(book):
+    """Return the number of all cores of a book of a settled rule whose cores are bounded."""
+    size = _longest_of(book.rule().tables)
+    return sum([found[0] for found in _log_numbers(book, size)])
 
 
 def core_at(book, size, number):
@@ -178,10 +177,10 @@ def core_at(book, size, number):
     _check_count(number)
     check_settled(book.rule(), book)
     found = _log_numbers(book, size)
-    if number >= found[size][EMPTY]:
+    if number >= found[size][0]:
         raise InvalidCount(number)
     log = []
-    mark = EMPTY
+    mark = 0
     ahead = number
     for rest in range(size - 1, -1, -1):
         for name, later, many in _names_on(book, mark, found[rest]):
@@ -196,7 +195,7 @@ def core_at(book, size, number):
 def _names_on(book, mark, found):
     """Return the names, ascending, that may follow on a mark, with the mark behind and the number found for it."""
     tables = book.rule().tables
-    behind = [(name, mark_behind(tables, mark, kind)) for name, kind in book.names().items()]
+    behind = [(name, step(tables, mark, kind)) for name, kind in book.names().items()]
     return [(name, later, found[later]) for name, later in behind if later is not None]
 
 
@@ -208,7 +207,7 @@ def core_place(book, log):
     check_settled(book.rule(), book)
     found = _log_numbers(book, len(log))
     ahead = 0
-    mark = EMPTY
+    mark = 0
     for at, name in enumerate(log):
         ways = _names_on(book, mark, found[len(log) - at - 1])
         ahead += sum([many for other, _, many in ways if other < name])
@@ -219,9 +218,9 @@ def core_place(book, log):
 def growth(rule):
     """Return how the numbers of core rows grow."""
     check_settled_rule(rule)
+    if is_bounded(rule.tables):
+        return ("bounded", _longest_of(rule.tables))
     steps = net_of(rule.tables)
-    if is_bounded(steps):
-        return ("bounded", _longest_of(steps))
     leaders = leaders_of(steps)
     if _crossing(steps, leaders) is not None:
         return ("doubling",)
@@ -232,7 +231,7 @@ def growth(rule):
         own = 1 if len(steps_within(steps, leaders, mark)) > 0 else 0
         behind = [met[leaders[later]] for later in steps[mark].values() if leaders[later] != leader]
         met[leader] = max([met.get(leader, own)] + [own + many for many in behind])
-    return ("power", met[leaders[EMPTY]] - 1)
+    return ("power", met[leaders[0]] - 1)
 
 
 def _crossing(steps, leaders):
@@ -253,7 +252,7 @@ def two_turns(rule):
         return None
     one, other = [[kind] + shortest_row(steps, steps[mark][kind], mark)
                   for kind in steps_within(steps, leaders, mark)[:2]]
-    return (shortest_row(steps, EMPTY, mark), one, other)
+    return (shortest_row(steps, 0, mark), one, other)
 
 
 def are_two_turns(rule, value):
@@ -265,5 +264,5 @@ def are_two_turns(rule, value):
     ahead, one, other = value
     if one[:len(other)] == other or other[:len(one)] == one:
         return False
-    mark = mark_on(rule.tables, EMPTY, ahead)
-    return mark is not None and all([mark_on(rule.tables, mark, turn) == mark for turn in (one, other)])
+    mark = number_on(rule.tables, 0, ahead)
+    return mark is not None and all([number_on(rule.tables, mark, turn) == mark for turn in (one, other)])

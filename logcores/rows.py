@@ -5,21 +5,7 @@ it takes any object.
 """
 
 from logcores.forms import is_strike
-
-
-class Tables:
-    """What a rule says of two kinds side by side, held ready for many questions.
-
-    What is found out about a rule once, at some cost, is kept here, too.
-    """
-
-    def __init__(self, table, covers, stops):
-        self.ordered = sorted({first for first, _ in table})
-        self.made = {first: {late: table[(first, late)] for late in self.ordered} for first in self.ordered}
-        self.covering = {first: {late: True for one, late in covers if one == first} for first in self.ordered}
-        self.stopping = {first: {late: True for one, late in stops if one == first} for first in self.ordered}
-        # None as long as nobody has asked.
-        self.settled = None
+from logcores.marks import number_on, step
 
 
 def rows_of(words, size):
@@ -74,8 +60,21 @@ def taken_out(strike):
 
 
 def removals(tables, row):
-    """Return the ascending list of the blocks that some strike takes out of a row."""
-    return sorted({taken_out(strike) for strike in row_strikes(tables, row)})
+    """Return the list of the blocks that some strike takes out of a row."""
+    found = block_kinds(tables, row)
+    ending = [[] for _ in row]
+    gone = []
+    for first, kinds in enumerate(found):
+        for end, kind in enumerate(kinds, start=first + 1):
+            if end < len(row):
+                ending[end].append(kind)
+                covering = tables.covering[kind]
+                if covering and any([late in covering for late in found[end]]):
+                    gone.append((first, end))
+                    continue
+            if any([kind in tables.stopping[early] for early in ending[first]]):
+                gone.append((first, end))
+    return gone
 
 
 def fits(tables, row, value):
@@ -101,40 +100,59 @@ def places_behind(tables, row, value):
 
 
 def reached(tables, row, places):
-    """Return the dictionary from the tuples of places to which strikes lead from some of a row's to True."""
-    found = {tuple(places): True}
-    waiting = [tuple(places)]
+    """Return the dictionary from the tuples of places to which strikes lead from some to the blocks that go next."""
+    start = tuple(places)
+    found = {}
+    known = {}
+    waiting = [start]
     while waiting:
         now = waiting.pop()
-        for first, end in removals(tables, [row[place] for place in now]):
-            left = now[:first] + now[end:]
-            if left not in found:
-                found[left] = True
-                waiting.append(left)
+        if now not in found:
+            kinds = tuple([row[place] for place in now])
+            # The same kinds come again and again.
+            if kinds not in known:
+                known[kinds] = removals(tables, kinds)
+            found[now] = known[kinds]
+            waiting.extend([now[:first] + now[end:] for first, end in found[now]])
     return found
 
 
 def sweep(tables, row):
     """Return the places of a row's core and a list of strikes that lead to it, by a settled rule."""
     left = []
+    numbers = [0]
     made = []
-    coming = list(range(len(row) - 1, -1, -1))
-    while coming:
-        left.append(coming.pop())
-        strike = _strike_at_end(tables, [row[place] for place in left])
-        if strike is not None:
-            made.append(strike)
-            word, first, cut, _ = strike
-            if word == "cover":
-                # What stands behind comes anew: its entries have other neighbours now.
-                coming.extend(left[cut:][::-1])
-                cut = first
-            del left[cut:]
+    for place in range(len(row)):
+        made.extend(_take_in(tables, row, left, numbers, place))
     return left, made
 
 
+def _take_in(tables, row, left, numbers, place):
+    """Put an entry behind what is left of those ahead of it, and return the strikes by which it settles there.
+
+    What is left is changed, and with it the list of the numbers of the marks of its beginnings.
+    """
+    made = []
+    coming = [place]
+    while coming:
+        left.append(coming.pop())
+        number = step(tables, numbers[-1], row[left[-1]])
+        if number is not None:
+            numbers.append(number)
+            continue
+        strike = _strike_at_end(tables, [row[one] for one in left])
+        made.append(strike)
+        word, first, cut, _ = strike
+        if word == "cover":
+            # What stands behind comes anew: its entries have other neighbours now.
+            coming.extend(left[cut:][::-1])
+            cut = first
+        del left[cut:], numbers[cut + 1:]
+    return made
+
+
 def _strike_at_end(tables, row):
-    """Return a strike up to the end of a row, None if there is none; no other strike fits the row."""
+    """Return a strike up to the end of a row that no other strike fits, None if there is none."""
     end = len(row)
     late = None
     for cut in range(end - 1, 0, -1):
@@ -154,6 +172,17 @@ def core_places(tables, row):
     return sweep(tables, row)[0]
 
 
+def cores_ahead(tables, row):
+    """Return the places of the cores of all beginnings of a row, the empty one's first, by a settled rule."""
+    left = []
+    numbers = [0]
+    found = [[]]
+    for place in range(len(row)):
+        _take_in(tables, row, left, numbers, place)
+        found.append(list(left))
+    return found
+
+
 def is_core_row(tables, row):
     """Return whether no strike fits a row."""
-    return all([_strike_at_end(tables, row[:end]) is None for end in range(2, len(row) + 1)])
+    return number_on(tables, 0, row) is not None

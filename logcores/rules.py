@@ -3,7 +3,7 @@
 from logcores.errors import InvalidPairs, InvalidRule, Unlike
 from logcores.forms import is_ascending
 from logcores.kinds import can_cover, can_stop, check_kinds, check_map, opposite, renamed
-from logcores.rows import Tables
+from logcores.tables import Tables
 
 
 class Rule:

@@ -1,10 +1,10 @@
 """Rules of which whatever is struck first leaves the same [26] to [30]."""
 
+from logcores.allrows import AllRows, least_in, numbers_in
 from logcores.errors import InvalidCount, Unsettled
 from logcores.forms import are_places, is_count, is_tuple_of
 from logcores.kinds import check_row, is_row
-from logcores.logs import picked
-from logcores.rows import fits, reached, removals, row_strikes, rows_of, taken_out
+from logcores.rows import fits, reached, row_strikes, taken_out
 from logcores.rules import check_rule
 
 # Two strikes that share an entry have at most five blocks.
@@ -28,29 +28,12 @@ def check_settled(rule, told):
 
 def _first_split(tables):
     """Return the first of the shortest rows that have several last ones, and these; None if there is none."""
-    known = {}
-    for size in range(1, LONGEST + 1):
-        for row in rows_of(tables.ordered, size):
-            found = _learn_ends(tables, row, known)
-            if len(found) > 1:
-                return (row, found)
+    for size in range(2, LONGEST + 1):
+        every = AllRows(tables, size)
+        several = every.with_several_ends()
+        if several > 0:
+            return (every.row(least_in(several)), every.ends_of(least_in(several)))
     return None
-
-
-def _learn_ends(tables, row, known):
-    """Return the ascending last ones of a row of which all shorter ones are known, and know them."""
-    gone = removals(tables, row)
-    places = tuple(range(len(row)))
-    if gone == []:
-        known[row] = [places]
-        return known[row]
-    found = set()
-    for first, end in gone:
-        left = places[:first] + places[end:]
-        for last in known[row[:first] + row[end:]]:
-            found.add(tuple([left[place] for place in last]))
-    known[row] = sorted(found)
-    return known[row]
 
 
 def last_ones(rule, row):
@@ -61,8 +44,8 @@ def last_ones(rule, row):
 
 
 def _ends_of(rule, row):
-    found = sorted(reached(rule.tables, row, list(range(len(row)))))
-    return [list(places) for places in found if removals(rule.tables, picked(row, places)) == []]
+    found = reached(rule.tables, row, list(range(len(row))))
+    return sorted([list(places) for places, gone in found.items() if gone == []])
 
 
 def unsettled(rule):
@@ -72,7 +55,7 @@ def unsettled(rule):
     if split is None:
         return None
     row, ends = split
-    return (list(row), list(ends[0]), list(ends[1]))
+    return (row, ends[0], ends[1])
 
 
 def is_unsettled(rule, value):
@@ -92,12 +75,8 @@ def unsettled_rows(rule, size):
     check_rule(rule)
     if not is_count(size) or not 1 <= size <= LONGEST:
         raise InvalidCount(size)
-    known = {}
-    found = []
-    for now in range(1, size + 1):
-        rows = rows_of(rule.tables.ordered, now)
-        found = [list(row) for row in rows if len(_learn_ends(rule.tables, row, known)) > 1]
-    return found
+    every = AllRows(rule.tables, size)
+    return [every.row(number) for number in numbers_in(every.with_several_ends())]
 
 
 def fork(rule):
@@ -107,7 +86,7 @@ def fork(rule):
     if split is None:
         return None
     # All shorter rows have one last one each, so two strikes that lead to unlike ones never meet again.
-    row = list(split[0])
+    row = split[0]
     found = row_strikes(rule.tables, row)
     for other in found:
         if not _meet(rule.tables, row, found[0], other):

@@ -1,4 +1,4 @@
-"""The names, arguments and methods of the interface, as far as they have landed."""
+"""The names, arguments and methods of the interface."""
 
 import importlib
 import inspect
@@ -76,6 +76,14 @@ CLASSES = {
     "logcores.rules": {"Rule": {"__init__": ["kinds", "covers", "stops"], "kinds": [], "covers": [], "stops": [],
                                 "__eq__": ["other"]}},
     "logcores.logs": {"Book": {"__init__": ["rule", "names"], "rule": [], "names": [], "__eq__": ["other"]}},
+    "logcores.stores": {"Store": {"__init__": ["table", "kinds", "holding"], "table": [], "kinds": [], "holding": [],
+                                  "words": [], "put": ["first", "second"], "__eq__": ["other"]}},
+    "logcores.journals": {"Journal": {
+        "__init__": ["book"], "start": ["log"], "close": ["spot"], "spots": [], "log_there": ["spot"],
+        "core_there": ["spot"], "kept_there": ["spot"], "write": ["spot", "name"], "compact": ["spot"],
+        "throw": ["spot", "places"], "back": ["spot", "many"], "change": ["spot", "place", "name"],
+        "join": ["one", "other"], "alike_spots": ["spot"], "trial": [], "attempt": ["action"], "copy": [], "undo": [],
+        "redo": [], "record": []}},
 }
 
 
