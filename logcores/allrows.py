@@ -66,7 +66,7 @@ def numbers_in(told):
 
 
 def _rows_by_kinds(tables, size):
-    """Return, for each set of places, the dictionary from the kinds to the sets of the rows in which these make them."""
+    """Return, for each set of places, the dictionary from the kinds to the sets of the rows in which it makes them."""
     found = [{}]
     for single in _rows_by_single_kinds(tables.ordered, size):
         found.extend([single] + [_rows_of_both(tables, ahead, single) for ahead in found[1:]])

@@ -69,6 +69,53 @@ FUNCTIONS = {
         "left_of": ["book", "segments"], "needless": ["book", "segments"], "commute": ["book", "one", "other"],
         "kinds_commute": ["rule", "kind", "late"],
     },
+    "logcores.memory": {
+        "moments": ["book", "log"], "struck_with": ["book", "log", "place"], "kept_behind": ["book", "log", "number"],
+        "most_kept": ["book", "log"], "memory_rows": ["book", "log", "number"], "core_back": ["rows", "size", "many"],
+        "memory_peak": ["book", "log", "number"], "without": ["book", "log", "place"],
+        "with_entry": ["book", "log", "place", "name"], "woken": ["book", "log", "place"],
+        "felled": ["book", "log", "place", "name"], "idle_places": ["book", "log"], "idle_names": ["book", "log"],
+        "needed_for": ["book", "log", "place"],
+    },
+    "logcores.safelots": {
+        "is_safe": ["book", "log", "lot"], "safe_lots": ["book", "log"], "many_safe": ["book", "log"],
+        "least_with": ["book", "log", "place"], "greatest_within": ["book", "log", "places"],
+        "is_greatest_within": ["book", "log", "places", "value"], "why_unsafe": ["book", "log", "lot"],
+        "never_alone": ["book", "log"], "throwing_of": ["book", "log", "lot"],
+        "is_throwing": ["book", "log", "lot", "value"],
+    },
+    "logcores.readers": {
+        "read_log": ["book", "log", "place", "rest"], "is_right": ["book", "log", "place", "rest"],
+        "fewest_left": ["book", "log", "place"], "shortest_rest": ["book", "log", "place"],
+        "is_shortest_rest": ["book", "log", "place", "value"], "least_rests": ["book", "log", "place"],
+        "always_read": ["book", "log", "place"], "is_left_for_all": ["book", "log", "places", "value"],
+        "fewest_for_all": ["book", "log", "places"], "left_for_all": ["book", "log", "places"],
+        "stretch_rests": ["book", "log", "places"],
+    },
+    "logcores.stores": {
+        "covering_pairs": ["store"], "stopping_pairs": ["store"], "parting_values": ["store", "word", "pair"],
+        "are_parting_values": ["store", "word", "pair", "value"], "fits": ["store", "rule"], "rule_of": ["store"],
+        "are_inputs": ["store", "book", "value"], "value_of": ["store", "book", "inputs", "log"],
+        "same_always": ["store", "book", "one", "other"], "parting_inputs": ["store", "book", "one", "other"],
+        "are_parting": ["store", "book", "one", "other", "value"], "unparted": ["store", "book"],
+        "are_unparted": ["store", "book", "value"], "hidden": ["rule"], "twins": ["rule", "many"],
+        "are_twins": ["rule", "many", "value"], "free_store": ["book"], "free_size": ["book"],
+        "parting_store": ["book", "one", "other"], "is_parting_store": ["book", "one", "other", "value"],
+    },
+    "logcores.folding": {
+        "is_folding": ["rule", "value"], "all_foldings": ["rule"], "coarsest": ["rule"],
+        "telling": ["rule", "one", "other"], "is_telling": ["rule", "one", "other", "value"],
+        "folded_rule": ["rule", "lists"], "folded_book": ["book", "lists"],
+    },
+    "logcores.journals": {"replayed": ["journal", "record"]},
+    "logcores.scripts": {
+        "play": ["journal", "script"], "script_text": ["script"], "read_script": ["text"], "end_of": ["book", "script"],
+        "shortened": ["book", "script"],
+    },
+    "logcores.papers": {
+        "rule_text": ["rule"], "read_rule": ["text"], "book_text": ["book"], "read_book": ["text"],
+        "strike_text": ["strike"], "read_strike": ["text"], "striking_text": ["strikes"], "read_striking": ["text"],
+    },
 }
 CLASSES = {
     "logcores.kinds": {"Kinds": {"__init__": ["table"], "table": [], "words": [], "put": ["first", "second"],
