@@ -3,7 +3,7 @@
 from logcores.cores import core_of, kept_of
 from logcores.errors import InvalidCount, InvalidJournal, InvalidLog, InvalidName, InvalidPlaces, InvalidRecord
 from logcores.errors import InvalidSpot, NothingToRedo, NothingToUndo, Refused
-from logcores.forms import are_places, is_count, is_list_of, is_place, is_string_in
+from logcores.forms import are_places, is_count, is_list_of, is_place
 from logcores.logs import check_book, is_name
 from logcores.settled import check_settled
 
@@ -261,6 +261,6 @@ def replayed(journal, record):
 
 
 def _is_command(value):
-    if not isinstance(value, tuple) or len(value) == 0 or not is_string_in(COMMANDS, value[0]):
+    if not isinstance(value, tuple) or len(value) == 0 or not isinstance(value[0], str):
         return False
-    return len(value) == COMMANDS[value[0]] + 1
+    return value[0] in COMMANDS and len(value) == COMMANDS[value[0]] + 1

@@ -118,7 +118,7 @@ def core_rows(rule, size):
     check_rule(rule)
     _check_count(size)
     check_settled(rule, rule)
-    return _numbers(net_of(rule.tables), {kind: 1 for kind in rule.tables.ordered}, size)[size][0]
+    return _numbers(rule.tables, {kind: 1 for kind in rule.tables.ordered}, size)[size]
 
 
 def _check_count(number):
@@ -126,15 +126,18 @@ def _check_count(number):
         raise InvalidCount(number)
 
 
-def _numbers(steps, many, size):
-    """Return, for each number of entries up to a size, from each mark the number of rows that go on from it.
-
-    Each kind counts so many times.
-    """
-    found = [{one: 1 for one in steps}]
+def _numbers(tables, many, size):
+    """Return, for each number of entries up to a size, the number of core rows; each kind counts so many times."""
+    steps = net_of(tables)
+    found = [1]
+    ways = {0: 1}
     for _ in range(size):
-        last = found[-1]
-        found.append({one: sum([many[kind] * last[later] for kind, later in steps[one].items()]) for one in steps})
+        later = {}
+        for mark, ahead in ways.items():
+            for kind, behind in steps[mark].items():
+                later[behind] = later.get(behind, 0) + ahead * many[kind]
+        ways = later
+        found.append(sum(list(ways.values())))
     return found
 
 
@@ -149,11 +152,11 @@ def core_logs(book, size):
     check_book(book)
     _check_count(size)
     check_settled(book.rule(), book)
-    return _log_numbers(book, size)[size][0]
+    return _log_numbers(book, size)[size]
 
 
 def _log_numbers(book, size):
-    return _numbers(net_of(book.rule().tables), _names_of_kinds(book), size)
+    return _numbers(book.rule().tables, _names_of_kinds(book), size)
 
 
 def many_unlike(book):
@@ -166,8 +169,7 @@ def many_unlike(book):
 
 def many_cores(book):
     """Return the number of all cores of a book of a settled rule whose cores are bounded."""
-    size = _longest_of(book.rule().tables)
-    return sum([found[0] for found in _log_numbers(book, size)])
+    return sum(_log_numbers(book, _longest_of(book.rule().tables)))
 
 
 def core_at(book, size, number):
@@ -176,14 +178,14 @@ def core_at(book, size, number):
     _check_count(size)
     _check_count(number)
     check_settled(book.rule(), book)
-    found = _log_numbers(book, size)
-    if number >= found[size][0]:
+    behind = _numbers_behind(book, size)
+    if number >= behind[0][0]:
         raise InvalidCount(number)
     log = []
     mark = 0
     ahead = number
-    for rest in range(size - 1, -1, -1):
-        for name, later, many in _names_on(book, mark, found[rest]):
+    for at in range(size):
+        for name, later, many in _names_on(book, mark, behind[at + 1]):
             if ahead < many:
                 log.append(name)
                 mark = later
@@ -192,11 +194,26 @@ def core_at(book, size, number):
     return log
 
 
-def _names_on(book, mark, found):
-    """Return the names, ascending, that may follow on a mark, with the mark behind and the number found for it."""
-    tables = book.rule().tables
-    behind = [(name, step(tables, mark, kind)) for name, kind in book.names().items()]
-    return [(name, later, found[later]) for name, later in behind if later is not None]
+def _numbers_behind(book, size):
+    """Return, for each place up to a size, from each mark met there the number of ways to go on to the size."""
+    steps = net_of(book.rule().tables)
+    many = _names_of_kinds(book)
+    level = [0]
+    levels = [level]
+    for _ in range(size):
+        level = list({later: True for mark in level for later in steps[mark].values()})
+        levels.append(level)
+    found = [{mark: 1 for mark in level}]
+    for marks in levels[:-1][::-1]:
+        last = found[-1]
+        found.append({mark: sum([many[kind] * last[later] for kind, later in steps[mark].items()]) for mark in marks})
+    return found[::-1]
+
+
+def _names_on(book, mark, behind):
+    """Return the names, ascending, that may follow on a mark, with the mark behind and the number told for it."""
+    ways = [(name, step(book.rule().tables, mark, kind)) for name, kind in book.names().items()]
+    return [(name, later, behind[later]) for name, later in ways if later is not None]
 
 
 def core_place(book, log):
@@ -205,11 +222,11 @@ def core_place(book, log):
     if not is_core_row(book.rule().tables, row_of(book, log)):
         raise InvalidLog(log)
     check_settled(book.rule(), book)
-    found = _log_numbers(book, len(log))
+    behind = _numbers_behind(book, len(log))
     ahead = 0
     mark = 0
     for at, name in enumerate(log):
-        ways = _names_on(book, mark, found[len(log) - at - 1])
+        ways = _names_on(book, mark, behind[at + 1])
         ahead += sum([many for other, _, many in ways if other < name])
         mark = [later for other, later, _ in ways if other == name][0]
     return ahead

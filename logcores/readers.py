@@ -1,7 +1,7 @@
 """What readers who have done a part of a log still have to do [73] to [76]."""
 
 from logcores.choices import all_choices, core_behind, least_ones
-from logcores.cores import check_settled_log, core_of, kept_of
+from logcores.cores import core_of, kept_of
 from logcores.errors import InvalidCount, InvalidPlaces
 from logcores.forms import are_places, is_place
 from logcores.logs import check_book_and_log, picked

@@ -1,7 +1,7 @@
 """Scripts that are played on journals, and their texts [98] to [100]."""
 
 from logcores.errors import CoreError, InvalidScript, InvalidText
-from logcores.forms import is_ascending, is_count, is_string_in, is_tuple_of, is_word, number_in
+from logcores.forms import is_ascending, is_count, is_tuple_of, is_word, number_in
 from logcores.journals import Journal, carry_out, check_journal, fresh_command
 
 # What stands behind the words of commands: what takes all that is left stands last.
@@ -21,7 +21,7 @@ def _is_script(value):
 def _is_command(value):
     if is_tuple_of(2, value) and value[0] == "try":
         return _is_script(value[1])
-    if not isinstance(value, tuple) or len(value) == 0 or not is_string_in(FORMS, value[0]):
+    if not isinstance(value, tuple) or len(value) == 0 or not isinstance(value[0], str) or value[0] not in FORMS:
         return False
     forms = FORMS[value[0]]
     return len(value) == len(forms) + 1 and all([_has_form(form, part) for form, part in zip(forms, value[1:])])

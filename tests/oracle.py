@@ -99,6 +99,50 @@ def forces_on(rule, row):
     return forces
 
 
+class Reading:
+    """A rule that is asked of all its short rows, slowly but for this: the strikes of each row are looked for once."""
+
+    def __init__(self, rule):
+        self.rule, self.strikes, self.led = rule, {}, {}
+
+    def led_to(self, row):
+        """The set of all tuples of places to which strikes lead, some or none."""
+        row = tuple(row)
+        if row not in self.led:
+            found, waiting = set(), [tuple(range(len(row)))]
+            while waiting:
+                now = waiting.pop()
+                if now not in found:
+                    found.add(now)
+                    waiting.extend(tuple(left_behind(now, strike)) for strike in self.strikes_on([row[at] for at in now]))
+            self.led[row] = found
+        return self.led[row]
+
+    def strikes_on(self, row):
+        if tuple(row) not in self.strikes:
+            self.strikes[tuple(row)] = strikes_on(self.rule, row)
+        return self.strikes[tuple(row)]
+
+    def ends_of(self, row):
+        return sorted(list(places) for places in self.led_to(row) if not self.strikes_on([row[at] for at in places]))
+
+    def split_rows(self, size):
+        """The rows of so many entries that have several last ones."""
+        return [row for row in rows(self.rule.kinds(), size) if len(row) == size and len(self.ends_of(row)) > 1]
+
+    def forced(self, longest=5):
+        """The pairs forced to cover that are no covers, and those forced to stop that are no stops."""
+        found = {"cover": set(), "stop": set()}
+        for row in rows(self.rule.kinds(), longest):
+            led = self.led_to(row) if row else set()
+            for first, second in itertools.combinations(range(len(row)), 2):
+                if (first, second) in led:
+                    for word, alone in (("cover", second), ("stop", first)):
+                        if (alone,) in led:
+                            found[word].add((row[first], row[second]))
+        return sorted(found["cover"] - set(self.rule.covers())), sorted(found["stop"] - set(self.rule.stops()))
+
+
 def all_tables(words):
     """All tables of some kinds in which three put together make one kind however they are bracketed."""
     pairs = list(itertools.product(words, repeat=2))
@@ -115,3 +159,27 @@ def all_rules(words):
         for covers in parts_of(can_cover(kinds)):
             for stops in parts_of(can_stop(kinds)):
                 yield Rule(kinds, covers, stops)
+
+
+def drawn_table(draw, words):
+    """A drawn table: what some ways to send a few numbers to each other make, one behind the other."""
+    while True:
+        size = draw.choice([2, 3, 4])
+        made = {tuple(draw.randrange(size) for _ in range(size)) for _ in range(draw.choice([1, 2, 2, 3]))}
+        while len(made) <= len(words):
+            more = made | {tuple(late[at] for at in early) for early in made for late in made}
+            if more == made:
+                break
+            made = more
+        if len(made) == len(words):
+            of = dict(zip(draw.sample(sorted(made), len(made)), words))
+            table = {(of[early], of[late]): of[tuple(late[at] for at in early)] for early in of for late in of}
+            return table if draw.random() < 0.7 else {(second, first): table[first, second] for first, second in table}
+
+
+def drawn_rule(draw, words):
+    """A drawn rule of some kinds."""
+    kinds = Kinds(drawn_table(draw, words))
+    covering, stopping = draw.choice([0.1, 0.3, 0.5, 0.8, 1]), draw.choice([0, 0, 0.1, 0.3, 0.5])
+    return Rule(kinds, [pair for pair in can_cover(kinds) if draw.random() < covering],
+                [pair for pair in can_stop(kinds) if draw.random() < stopping])
