@@ -4,7 +4,7 @@ from logcores.cores import core_of, kept_of
 from logcores.errors import InvalidCount, InvalidJournal, InvalidLog, InvalidName, InvalidPlaces, InvalidRecord
 from logcores.errors import InvalidSpot, NothingToRedo, NothingToUndo, Refused
 from logcores.forms import are_places, is_count, is_list_of, is_place
-from logcores.logs import check_book, is_name
+from logcores.logs import check_book, is_name, picked
 from logcores.settled import check_settled
 
 # How many things stand behind the words of a record.
@@ -33,8 +33,9 @@ class Journal:
     All that changes stands in `held`: what is there now, the commands that
     were made, each with what was there ahead of it, and those that were taken
     back, each with what was there behind it. What is there is the count that
-    comes next and the logs at the spots. None of this is ever changed, but
-    another one is put in its place: so blocks and copies need only keep it.
+    comes next, and for each spot the log there with its kept places. None of
+    this is ever changed, but another one is put in its place: so blocks and
+    copies need only keep it.
     """
 
     def __init__(self, book):
@@ -47,104 +48,87 @@ class Journal:
         """Put a log at a new spot, and return the spot."""
         if not is_list_of(self._book.names(), log):
             raise InvalidLog(log)
-        spot, logs = self.held[0]
-        self._make(("start", list(log)), spot + 1, {**logs, spot: list(log)})
+        spot, there = self.held[0]
+        self._make(("start", list(log)), spot + 1, {**there, spot: self._with_kept(list(log))})
         return spot
 
     def close(self, spot):
         """Take a spot away."""
         self._check_spot(spot)
-        self._make(("close", spot), self._next(), _less(self._logs(), spot))
+        self._make(("close", spot), self._next(), _less(self._there(), spot))
 
     def spots(self):
         """Return the ascending list of the spots."""
-        return sorted(self._logs())
+        return sorted(self._there())
 
     def log_there(self, spot):
         """Return the log at a spot."""
-        self._check_spot(spot)
-        return list(self._logs()[spot])
+        return list(self._log_and_kept(spot)[0])
 
     def core_there(self, spot):
         """Return the core of the log at a spot."""
-        self._check_spot(spot)
-        return core_of(self._book, self._logs()[spot])
+        log, kept = self._log_and_kept(spot)
+        return picked(log, kept)
 
     def kept_there(self, spot):
         """Return the ascending list of the places of the kept entries of the log at a spot."""
-        self._check_spot(spot)
-        return self._kept(self._logs()[spot])
+        return list(self._log_and_kept(spot)[1])
 
     def write(self, spot, name):
         """Put an entry behind a log, and return the places of the entries that this strikes, itself perhaps, too."""
-        self._check_spot(spot)
+        log, kept = self._log_and_kept(spot)
         self._check_name(name)
-        log = self._logs()[spot]
-        struck = self._struck(log)
-        self._put(("write", spot, name), spot, log + [name])
-        return _first_alone(self._struck(log + [name]), struck)
+        left = self._put(("write", spot, name), spot, log + [name])
+        return _first_alone([*kept, len(log)], left)
 
     def compact(self, spot):
         """Put its core in the place of a log, and return the places of the entries that are thrown away."""
-        self._check_spot(spot)
-        log = self._logs()[spot]
-        struck = self._struck(log)
+        log, kept = self._log_and_kept(spot)
+        struck = _first_alone(list(range(len(log))), kept)
         if struck == []:
             raise Refused(spot)
-        self._put(("compact", spot), spot, core_of(self._book, log))
+        self._put(("compact", spot), spot, picked(log, kept))
         return struck
 
     def throw(self, spot, places):
         """Throw some struck entries away without which a log is alike."""
-        self._check_spot(spot)
-        log = self._logs()[spot]
-        if not are_places(len(log), places) or places == []:
-            raise InvalidPlaces(places)
-        if _first_alone(places, self._struck(log)) != []:
+        log, kept = self._log_and_kept(spot)
+        if not are_places(len(log), places) or places == [] or _first_alone(places, kept) != places:
             raise InvalidPlaces(places)
         left = [name for place, name in enumerate(log) if place not in places]
-        if core_of(self._book, left) != core_of(self._book, log):
+        if core_of(self._book, left) != picked(log, kept):
             raise Refused(places)
         self._put(("throw", spot, list(places)), spot, left)
 
     def back(self, spot, many):
         """Take the last entries away, and return the places of the entries that are kept by this."""
-        self._check_spot(spot)
-        log = self._logs()[spot]
+        log, kept = self._log_and_kept(spot)
         if not is_count(many) or not 1 <= many <= len(log):
             raise InvalidCount(many)
-        left = log[:len(log) - many]
-        self._put(("back", spot, many), spot, left)
-        return _first_alone(self._kept(left), self._kept(log))
+        return _first_alone(self._put(("back", spot, many), spot, log[:len(log) - many]), kept)
 
     def change(self, spot, place, name):
         """Put a name in the place of an entry, and return the places of others struck, and kept, by this."""
-        self._check_spot(spot)
-        log = self._logs()[spot]
+        log, kept = self._log_and_kept(spot)
         if not is_place(len(log), place):
             raise InvalidCount(place)
         self._check_name(name)
-        now = log[:place] + [name] + log[place + 1:]
-        self._put(("change", spot, place, name), spot, now)
-        before = _first_alone(self._kept(log), [place])
-        later = _first_alone(self._kept(now), [place])
-        return (_first_alone(before, later), _first_alone(later, before))
+        left = self._put(("change", spot, place, name), spot, log[:place] + [name] + log[place + 1:])
+        return (_first_alone(kept, [place, *left]), _first_alone(left, [place, *kept]))
 
     def join(self, one, other):
         """Put the log at one spot behind that at another one, and take the spot away."""
-        self._check_spot(one)
-        self._check_spot(other)
+        log = self._log_and_kept(one)[0]
+        more = self._log_and_kept(other)[0]
         if one == other:
             raise InvalidSpot(other)
-        logs = self._logs()
-        self._make(("join", one, other), self._next(), {**_less(logs, other), one: logs[one] + logs[other]})
+        there = {**_less(self._there(), other), one: self._with_kept(log + more)}
+        self._make(("join", one, other), self._next(), there)
 
     def alike_spots(self, spot):
         """Return the ascending list of the other spots whose logs are alike with that at a spot."""
-        self._check_spot(spot)
-        logs = self._logs()
-        core = core_of(self._book, logs[spot])
-        return [other for other in sorted(logs) if other != spot and core_of(self._book, logs[other]) == core]
+        core = self.core_there(spot)
+        return [other for other in self.spots() if other != spot and self.core_there(other) == core]
 
     def trial(self):
         """Return a block at the end of which the journal is as it was when the block was entered."""
@@ -184,35 +168,38 @@ class Journal:
     def _next(self):
         return self.held[0][0]
 
-    def _logs(self):
+    def _there(self):
         return self.held[0][1]
 
     def _check_spot(self, spot):
         # To Python True is the key 1.
-        if not is_count(spot) or spot not in self._logs():
+        if not is_count(spot) or spot not in self._there():
             raise InvalidSpot(spot)
+
+    def _log_and_kept(self, spot):
+        self._check_spot(spot)
+        return self._there()[spot]
+
+    def _with_kept(self, log):
+        return (log, kept_of(self._book, log))
 
     def _check_name(self, name):
         if not is_name(self._book, name):
             raise InvalidName(name)
 
-    def _kept(self, log):
-        return kept_of(self._book, log)
-
-    def _struck(self, log):
-        return _first_alone(list(range(len(log))), self._kept(log))
-
     def _put(self, command, spot, log):
-        """Make a command that puts a log at a spot."""
-        self._make(command, self._next(), {**self._logs(), spot: log})
+        """Make a command that puts a log at a spot, and return its kept places."""
+        made = self._with_kept(log)
+        self._make(command, self._next(), {**self._there(), spot: made})
+        return made[1]
 
-    def _make(self, command, number, logs):
+    def _make(self, command, number, there):
         now, made, _ = self.held
-        self.held = ((number, logs), (*made, (command, now)), ())
+        self.held = ((number, there), (*made, (command, now)), ())
 
 
-def _less(logs, spot):
-    return {other: logs[other] for other in logs if other != spot}
+def _less(there, spot):
+    return {other: there[other] for other in there if other != spot}
 
 
 def _first_alone(one, other):

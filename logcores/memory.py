@@ -3,8 +3,8 @@
 from logcores.cores import check_place, check_settled_log, core_of, kept_of
 from logcores.errors import InvalidCount, InvalidName, InvalidPlaces
 from logcores.forms import is_count, is_place, is_tuple_of, is_word
-from logcores.logs import check_book_and_log, is_name, row_of
-from logcores.rows import cores_ahead
+from logcores.logs import check_book_and_log, is_name, picked, row_of
+from logcores.rows import cores_ahead, cores_without_each
 from logcores.settled import check_settled
 
 
@@ -144,10 +144,6 @@ def _check_entry(book, log, place, name):
 def woken(book, log, place):
     """Return the ascending list of the struck places that are kept without an entry."""
     _check_settled_place(book, log, place)
-    return _woken_by(book, log, place)
-
-
-def _woken_by(book, log, place):
     left = kept_of(book, _less(log, place))
     there = [other if other < place else other + 1 for other in left]
     return _first_alone(there, kept_of(book, log))
@@ -169,7 +165,12 @@ def idle_places(book, log):
     """Return the ascending list of the places of the entries without which a log is alike."""
     check_settled_log(book, log)
     whole = core_of(book, log)
-    return [place for place in range(len(log)) if core_of(book, _less(log, place)) == whole]
+    return [place for place, left in enumerate(_cores_without(book, log)) if picked(log, left) == whole]
+
+
+def _cores_without(book, log):
+    """Return, for each place of a log, the places of the core of the log without the entry there."""
+    return cores_without_each(book.rule().tables, row_of(book, log))
 
 
 def idle_names(book, log):
@@ -182,4 +183,6 @@ def idle_names(book, log):
 def needed_for(book, log, place):
     """Return the ascending list of the places of the entries without each of which a struck entry is kept."""
     _check_settled_place(book, log, place)
-    return [other for other in range(len(log)) if other != place and place in _woken_by(book, log, other)]
+    if place in kept_of(book, log):
+        return []
+    return [other for other, left in enumerate(_cores_without(book, log)) if place in left]

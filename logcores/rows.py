@@ -183,6 +183,21 @@ def cores_ahead(tables, row):
     return found
 
 
+def cores_without_each(tables, row):
+    """Return, for each place of a row, the places of the core of the row without the entry there."""
+    left = []
+    numbers = [0]
+    found = []
+    for place in range(len(row)):
+        behind = list(left)
+        marks = list(numbers)
+        for late in range(place + 1, len(row)):
+            _take_in(tables, row, behind, marks, late)
+        found.append(behind)
+        _take_in(tables, row, left, numbers, place)
+    return found
+
+
 def is_core_row(tables, row):
     """Return whether no strike fits a row."""
     return number_on(tables, 0, row) is not None

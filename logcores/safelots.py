@@ -4,7 +4,8 @@ from logcores.choices import all_choices, least_ones, lies_within
 from logcores.cores import check_settled_log, check_struck, core_of, kept_of
 from logcores.errors import InvalidPlaces
 from logcores.forms import are_places
-from logcores.logs import check_book_and_log, check_places
+from logcores.logs import check_book_and_log, check_places, picked, row_of
+from logcores.rows import cores_without_each
 from logcores.settled import check_settled
 
 
@@ -21,8 +22,7 @@ def _core_without(book, log, lot):
     return core_of(book, [name for place, name in enumerate(log) if place not in lot])
 
 
-def is_safe_lot(book, log, lot):
-    """Return whether a log of a settled rule without the entries at some places is alike with it."""
+def _is_safe_lot(book, log, lot):
     return _core_without(book, log, lot) == core_of(book, log)
 
 
@@ -34,7 +34,7 @@ def _all_safe(book, log):
 def is_safe(book, log, lot):
     """Return whether a log without the entries of a lot is alike with it."""
     _check_lot(book, log, lot)
-    return is_safe_lot(book, log, lot)
+    return _is_safe_lot(book, log, lot)
 
 
 def safe_lots(book, log):
@@ -66,7 +66,7 @@ def is_greatest_within(book, log, places, value):
     _check_lot(book, log, places)
     if not are_places(len(log), value) or not lies_within(value, places):
         return False
-    return is_safe_lot(book, log, value) and len(value) == max([len(lot) for lot in all_choices(book, log, places)])
+    return _is_safe_lot(book, log, value) and len(value) == max([len(lot) for lot in all_choices(book, log, places)])
 
 
 def why_unsafe(book, log, lot):
@@ -81,7 +81,9 @@ def never_alone(book, log):
     """Return the ascending list of the struck places that are no safe lot by themselves."""
     check_settled_log(book, log)
     kept = kept_of(book, log)
-    return [place for place in range(len(log)) if place not in kept and not is_safe_lot(book, log, [place])]
+    whole = picked(log, kept)
+    found = cores_without_each(book.rule().tables, row_of(book, log))
+    return [place for place, left in enumerate(found) if place not in kept and picked(log, left) != whole]
 
 
 def throwing_of(book, log, lot):
@@ -104,4 +106,4 @@ def is_throwing(book, log, lot, value):
         return False
     if sorted(value) != lot:
         return False
-    return all([is_safe_lot(book, log, value[:size]) for size in range(len(value) + 1)])
+    return all([_is_safe_lot(book, log, value[:size]) for size in range(len(value) + 1)])
