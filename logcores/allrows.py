@@ -61,7 +61,7 @@ def numbers_in(told):
     left = told
     while left > 0:
         found.append(least_in(left))
-        left &= left - 1
+        left = left & (left - 1)
     return found
 
 
@@ -69,7 +69,7 @@ def _rows_by_kinds(tables, size):
     """Return, for each set of places, the dictionary from the kinds to the sets of the rows in which it makes them."""
     found = [{}]
     for single in _rows_by_single_kinds(tables.ordered, size):
-        found.extend([single] + [_rows_of_both(tables, ahead, single) for ahead in found[1:]])
+        found = [*found, single, *[_rows_of_both(tables, ahead, single) for ahead in found[1:]]]
     return found
 
 
